@@ -1,0 +1,1 @@
+"""Transactions over a store, each as if alone."""
