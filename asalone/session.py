@@ -1,13 +1,9 @@
 """The calls of a transaction: each gives back the numbers that it answers, or its refusal."""
 
-HIGHEST_KEY = 255
-HIGHEST_VALUE = 4294967295
-HIGHEST_WAY = 1
+from asalone.forms import HIGHEST_KEY, HIGHEST_VALUE, list_answer, part_answer, value_answer
+from asalone.refusals import CLASH, FULL, NO_SUCH_NUMBER, WRONG
 
-WRONG = -1
-CLASH = -5
-FULL = -6
-NO_SUCH_MARK = -7
+HIGHEST_WAY = 1
 
 
 def begin(state, way):
@@ -25,10 +21,7 @@ def read(transaction, key):
         if not transaction.may_read():
             return [FULL]
         transaction.note_read(key, key)
-    value = transaction.value_at(key)
-    if value is None:
-        return [0]
-    return [1, 1, value]
+    return value_answer(transaction.value_at(key))
 
 
 def read_range(transaction, lo, hi):
@@ -37,8 +30,7 @@ def read_range(transaction, lo, hi):
     if not transaction.may_read():
         return [FULL]
     transaction.note_read(lo, hi)
-    pairs = transaction.part(lo, hi)
-    return [len(pairs) // 2, len(pairs)] + pairs
+    return part_answer(transaction.seen(), lo, hi)
 
 
 def write(transaction, key, value):
@@ -63,7 +55,7 @@ def mark(transaction):
 
 def back(transaction, number):
     if not transaction.has_mark(number):
-        return [NO_SUCH_MARK]
+        return [NO_SUCH_NUMBER]
     transaction.go_back(number)
     return [len(transaction.writes)]
 
@@ -76,8 +68,9 @@ def commit(state, number):
         return [0]
     clash = state.clash_of(transaction)
     if clash:
-        return [CLASH, len(clash)] + clash
-    return [state.commit(transaction.writes)]
+        return list_answer(CLASH, clash)
+    state.history.add_commit(transaction.writes)
+    return [state.history.now()]
 
 
 def abort(state, number):

@@ -1,18 +1,9 @@
 """One transaction: what it sees, what it wrote, what it has read, its marks."""
 
+from asalone.forms import with_writes
+
 MOST_READS = 64
 MOST_MARKS = 16
-
-
-def with_writes(store, writes):
-    """The store that these writes make of that one, which stays as it is."""
-    made = dict(store)
-    for key in writes:
-        if writes[key] is not None:
-            made[key] = writes[key]
-        elif key in made:
-            made.pop(key)
-    return made
 
 
 class Transaction:
@@ -43,15 +34,8 @@ class Transaction:
             return self.writes[key]
         return self.store.get(key)
 
-    def part(self, lo, hi):
-        """What it sees from lo to hi, told as keys, each with its value behind it."""
-        seen = with_writes(self.store, self.writes)
-        pairs = []
-        for key in range(lo, hi + 1):
-            if key in seen:
-                pairs.append(key)
-                pairs.append(seen[key])
-        return pairs
+    def seen(self):
+        return with_writes(self.store, self.writes)
 
     def write(self, key, value):
         self.writes[key] = value

@@ -41,6 +41,43 @@ def abort(number):
     return [8, number]
 
 
+def at(number, key):
+    return [9, number, key]
+
+
+def whole(number):
+    """The call `all`."""
+    return [10, number]
+
+
+def changes(one, other):
+    return [11, one, other]
+
+
+def vacuum(number):
+    return [12, number]
+
+
+def sync():
+    return [13]
+
+
+def crash():
+    return [14]
+
+
+def log():
+    return [15]
+
+
+def recover(numbers):
+    return [16, len(numbers)] + list(numbers)
+
+
+def shape():
+    return [17]
+
+
 def flat(calls):
     return [x for call in calls for x in call]
 
@@ -74,3 +111,33 @@ def last(*calls):
 def filled(pairs, number=1):
     """Calls by which transaction `number` writes these pairs and is committed."""
     return [begin(0)] + [write(number, k, v) for k, v in pairs] + [commit(number)]
+
+
+def check(before, numbers):
+    """By powers, not step by step as the program does it."""
+    count = len(numbers)
+    total = before * 31 ** count + sum((x + 1) * 31 ** (count - 1 - place) for place, x in enumerate(numbers))
+    return total % 2 ** 32
+
+
+def log_with(base, pairs, *commits):
+    """A log with right checks, whatever stands in it: pairs and each commit's writes are flat lists.
+
+    How many keys there are is counted; a commit that is a tuple has that number ahead of its numbers itself.
+    """
+    numbers = [base, len(pairs) // 2] + list(pairs)
+    before = check(0, numbers)
+    numbers.append(before)
+    for wrote in commits:
+        part = list(wrote) if isinstance(wrote, tuple) else [len(wrote) // 3] + wrote
+        before = check(before, part)
+        numbers += part + [before]
+    return numbers
+
+
+def told_log(*calls):
+    """The log that the program tells behind these calls."""
+    answered = last(*calls, log())
+    if answered[0] != answered[1] or answered[0] != len(answered) - 2:
+        raise AssertionError(f"not a log's answer: {answered}")
+    return answered[2:]

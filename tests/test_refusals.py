@@ -2,7 +2,8 @@
 
 import unittest
 
-from tests.lines import (LARGEST, abort, ask, back, begin, commit, delete, filled, last, mark, read, span, write)
+from tests.lines import LARGEST, abort, ask, at, back, begin, changes, commit, delete, filled, last, log, log_with, mark
+from tests.lines import read, recover, shape, span, sync, vacuum, whole, write
 
 HIGHEST_VALUE = 4294967295
 
@@ -150,6 +151,40 @@ class NothingChanges(unittest.TestCase):
                 told = ask(*self.line[:place], call, *self.line[place:])
                 self.assertIn(told[place], [[-1], [-4], [-7]])
                 self.assertEqual(told[:place] + told[place + 1:], plain)
+
+    def test_refused_calls_of_the_past_between(self):
+        line = [begin(1), mark(1)] + filled([(1, 10), (2, 20)], 2) + [sync(), read(1, 1), begin(0)]
+        line += filled([(2, 21)], 4) + [sync(), write(1, 9, 9), shape(), log(), commit(1), vacuum(1), whole(1), whole(2)]
+        line += filled([(3, 3)], 5) + [shape(), log(), write(3, 3, 4), commit(3), vacuum(3), whole(4), changes(2, 4)]
+        refused = [at(9, 1), at(9, 256), at(2, 256), whole(9), changes(2, 9), changes(9, 2), vacuum(9), recover([]),
+                   recover(log_with(4294967296, [])), recover(log_with(1, [2, 1, 1, 1])),
+                   recover(log_with(1, [2, 1], [3, 1, 3])[1:])]
+        plain = ask(*line)
+        for place in range(len(line) + 1):
+            for call in refused:
+                told = ask(*line[:place], call, *line[place:])
+                self.assertIn(told[place], [[-1], [-2], [-7]])
+                self.assertEqual(told[:place] + told[place + 1:], plain)
+
+    def test_each_refusal_leaves_all_as_it_was(self):
+        # Base 1, safe 3, now 4; number 2 sees 1, has read 64 times and has 16 marks; with it 8 are open.
+        line = filled([(1, 1)]) + [sync(), vacuum(1), begin(1), write(2, 9, 9)] + [read(2, 7)] * 64 + [mark(2)] * 16
+        line += filled([(2, 2), (1, 5)], 3) + filled([(1, 6)], 4) + [sync()] + filled([(1, 7)], 5) + [begin(0)] * 7
+        asked = [shape(), log()] + [whole(n) for n in range(1, 5)] + [changes(1, 4), changes(4, 1), begin(2)]
+        refused = {-1: [begin(2), begin(LARGEST), read(2, 256), span(2, 3, 2), span(2, 0, 256), write(2, 256, 0),
+                        write(2, 0, HIGHEST_VALUE + 1), delete(2, 256), at(1, 256), at(4, LARGEST)],
+                   -2: [recover([]), recover([1, 0]), recover([1, 0, 1]), recover([0, 0, 31])],
+                   -3: [vacuum(2), vacuum(3)],
+                   -4: [read(1, 1), span(13, 0, 1), write(5, 1, 1), delete(0, 1), mark(4), back(3, 0), commit(1),
+                        abort(LARGEST)],
+                   -6: [begin(0), begin(1), read(2, 7), span(2, 0, 9), mark(2)],
+                   -7: [back(2, 16), back(6, 0), at(0, 1), at(5, 1), whole(0), whole(5), changes(0, 1), changes(1, 0),
+                        changes(4, 5), changes(5, 4), vacuum(0), vacuum(4), vacuum(5), vacuum(LARGEST)]}
+        for number, calls in refused.items():
+            for call in calls:
+                told = ask(*line, *asked, call, *asked)[len(line):]
+                self.assertEqual(told[len(asked)], [number], call)
+                self.assertEqual(told[:len(asked)], told[len(asked) + 1:], call)
 
     def test_a_refused_write_leaves_what_was_written(self):
         line = [begin(), write(1, 1, 5), write(1, 1, HIGHEST_VALUE + 1), read(1, 1), mark(1), back(1, 0)]
